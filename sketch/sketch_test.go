@@ -1,0 +1,28 @@
+package sketch
+
+import (
+	"testing"
+
+	"chase/api"
+	"chase/heap"
+)
+
+func TestInverse(t *testing.T) {
+	for _, text := range []string{
+		"", "1 -2 2.5 /a b true false null mark", "(a\\(b) (x) exec", "[1 [2 (c)]] [] [1] exec", "[1 2] packed [1] packed exec",
+		"<<>> <</a 1 2 (b)>> 3 spare", "(ab) file (cd) closed", "7 save add op /sub op 5 exec",
+	} {
+		s := Put(api.State{}, text)
+		if got := Show(s); got != text || heap.Check(s.Heap) != api.OK {
+			t.Errorf("%s: %s", text, got)
+		}
+	}
+	s := Put(Put(api.State{}, "{1 a}"), "2")
+	if got := Show(s); got != "[1 a] exec 2" {
+		t.Error(got)
+	}
+	s.Heap[0].Items[0] = s.Ops[0]
+	if got := Show(s); len(got) > 100 {
+		t.Error(got)
+	}
+}
