@@ -3,35 +3,12 @@ package dash
 import (
 	"math/rand"
 	"slices"
-	"strconv"
-	"strings"
 	"testing"
 
 	"chase/api"
 	"chase/path"
+	"chase/sketch"
 )
-
-// read reads a path as in the chapter's examples.
-func read(text string) api.Path {
-	var p api.Path
-	for _, f := range strings.Split(text, ",") {
-		w := strings.Fields(f)
-		if len(w) == 0 {
-			continue
-		}
-		s := api.Step{Kind: 1 + strings.Index("MLCZ", w[0])}
-		for i, x := range w[1:] {
-			n, _ := strconv.Atoi(x)
-			if i%2 == 0 {
-				s.P[i/2].X = n
-			} else {
-				s.P[i/2].Y = n
-			}
-		}
-		p = append(p, s)
-	}
-	return p
-}
 
 func at(x, y int) api.Point { return api.Point{X: x, Y: y} }
 
@@ -68,13 +45,13 @@ func TestCut(t *testing.T) {
 		{"M 5 5, L 5 5, M 9 9", pen(0, 3), "M 5 5, L 5 5, M 9 9"}, {"M 0 0, L 10 0, M 20 0, L 30 0, Z", pen(0, 6), "M 0 0, L 6 0, M 20 0, L 26 0, M 28 0, L 22 0"}, {"M 0 0, L 10 0, L 0 0, Z", pen(0, 15, 1), "M 0 0, L 10 0, L 5 0, M 4 0, L 0 0"},
 		{l, pen(30, 30, 10), "M 10 0, L 40 0, M 50 0, L 80 0, M 90 0, L 100 0, L 100 20, M 100 30, L 100 50"}, {l, pen(1<<20, 200), l}, {l, pen(200, 200), ""}, {l, pen(60, 60), "M 60 0, L 100 0, L 100 20"}, {"M 0 0, L 10 0, L 10 0, L 20 0", pen(0, 15, 99), "M 0 0, L 10 0, L 15 0"},
 	} {
-		got, e := Cut(read(c.p), c.pen)
+		got, e := Cut(sketch.Path(c.p), c.pen)
 		want := c.want
 		if c.pen.Phase == 1<<20 {
 			// 2^20 is 2621 times 400, and 176 more.
 			want = "M 0 0, L 24 0"
 		}
-		if !slices.Equal(got, read(want)) || e != api.OK {
+		if !slices.Equal(got, sketch.Path(want)) || e != api.OK {
 			t.Errorf("%s by %v: %v %d", c.p, c.pen, got, e)
 		}
 	}
@@ -83,14 +60,14 @@ func TestCut(t *testing.T) {
 		pen api.Pen
 		e   api.Errno
 	}{{"M 0 0, L 1000 0", pen(0, 1), api.LimitCheck}, {"M -16384 -16384, L 16384 16384", pen(0, 1), api.LimitCheck}, {"L 0 0", api.Pen{}, api.ErrPath}, {"M 0 0, C 1 1 2 2 3 3", api.Pen{}, api.ErrCurve}, {l, pen(0, 0), api.ErrPen}, {l, api.Pen{}, api.ErrPen}} {
-		if got, e := Cut(read(c.p), c.pen); got != nil || e != c.e {
+		if got, e := Cut(sketch.Path(c.p), c.pen); got != nil || e != c.e {
 			t.Errorf("%s by %v: %d", c.p, c.pen, e)
 		}
 	}
-	if p, e := Cut(read("M 0 0, L 299 0"), pen(0, 1)); len(p) != 300 || e != api.OK {
+	if p, e := Cut(sketch.Path("M 0 0, L 299 0"), pen(0, 1)); len(p) != 300 || e != api.OK {
 		t.Error(len(p), e)
 	}
-	if _, e := Cut(read("M 0 0, L 301 0"), pen(0, 1)); e != api.LimitCheck {
+	if _, e := Cut(sketch.Path("M 0 0, L 301 0"), pen(0, 1)); e != api.LimitCheck {
 		t.Error(e)
 	}
 }

@@ -3,32 +3,12 @@ package flat
 import (
 	"math/rand"
 	"slices"
-	"strconv"
-	"strings"
 	"testing"
 
 	"chase/api"
 	"chase/path"
+	"chase/sketch"
 )
-
-// read reads a path as in the chapter's examples.
-func read(text string) api.Path {
-	var p api.Path
-	for _, f := range strings.Split(text, ",") {
-		w := strings.Fields(f)
-		s := api.Step{Kind: 1 + strings.Index("MLCZ", w[0])}
-		for i, x := range w[1:] {
-			n, _ := strconv.Atoi(x)
-			if i%2 == 0 {
-				s.P[i/2].X = n
-			} else {
-				s.P[i/2].Y = n
-			}
-		}
-		p = append(p, s)
-	}
-	return p
-}
 
 const great = "M -16384 -16384, C 16384 16384 -16384 -16384 16384 16384"
 
@@ -43,8 +23,8 @@ func TestExamples(t *testing.T) {
 		{"M 0 0, C 0 0 30 0 30 0", 100, "M 0 0, L 30 0"}, {bow, 10, "M 0 0, L 25 55, L 80 80"}, {bow, 9, "M 0 0, L 25 55, L 80 80"}, {bow, 2, "M 0 0, L 7 29, L 25 55, L 51 73, L 80 80"},
 		{"M 5 5, L 6 6, C 6 6 6 6 6 6, Z, M 1 1", 1, "M 5 5, L 6 6, L 6 6, Z, M 1 1"}, {"M 0 0, C 1 2 3 4 5 6, C 0 40 40 80 80 80", 1600, "M 0 0, L 5 6, L 80 80"},
 	} {
-		got, e := Flatten(read(c.p), c.tolerance)
-		if !slices.Equal(got, read(c.want)) || e != api.OK {
+		got, e := Flatten(sketch.Path(c.p), c.tolerance)
+		if !slices.Equal(got, sketch.Path(c.want)) || e != api.OK {
 			t.Errorf("%s by %d: %v %d", c.p, c.tolerance, got, e)
 		}
 	}
@@ -52,24 +32,24 @@ func TestExamples(t *testing.T) {
 		t.Error(p, e)
 	}
 	for text, want := range map[string]int{"M 0 0, L 5 5, Z": 3, "M 0 0, C 16384 0 -16384 0 0 0": 257, great: 513} {
-		if n, e := Count(read(text), 1); n != want || e != api.OK {
+		if n, e := Count(sketch.Path(text), 1); n != want || e != api.OK {
 			t.Error(text, n, e)
 		}
 	}
-	if p, e := Flatten(read(great), 1); p != nil || e != api.LimitCheck {
+	if p, e := Flatten(sketch.Path(great), 1); p != nil || e != api.LimitCheck {
 		t.Error(e)
 	}
 }
 
 func TestInvalid(t *testing.T) {
 	for _, tolerance := range []int{0, 1601, -1, 1 << 62} {
-		n, e := Count(read("M 0 0"), tolerance)
-		p, e2 := Flatten(read("M 0 0"), tolerance)
+		n, e := Count(sketch.Path("M 0 0"), tolerance)
+		p, e2 := Flatten(sketch.Path("M 0 0"), tolerance)
 		if n != 0 || p != nil || e != api.ErrArg || e2 != api.ErrArg {
 			t.Error(tolerance, e, e2)
 		}
-		n, e = Count(read("L 0 0"), tolerance)
-		p, e2 = Flatten(read("L 0 0"), tolerance)
+		n, e = Count(sketch.Path("L 0 0"), tolerance)
+		p, e2 = Flatten(sketch.Path("L 0 0"), tolerance)
 		if n != 0 || p != nil || e != api.ErrPath || e2 != api.ErrPath {
 			t.Error(tolerance, e, e2)
 		}

@@ -4,32 +4,12 @@ import (
 	"math"
 	"math/big"
 	"math/rand"
-	"strconv"
-	"strings"
 	"testing"
 
 	"chase/api"
 	"chase/path"
+	"chase/sketch"
 )
-
-// read reads a path as in the chapter's examples.
-func read(text string) api.Path {
-	var p api.Path
-	for _, f := range strings.Split(text, ",") {
-		w := strings.Fields(f)
-		s := api.Step{Kind: 1 + strings.Index("MLCZ", w[0])}
-		for i, x := range w[1:] {
-			n, _ := strconv.Atoi(x)
-			if i%2 == 0 {
-				s.P[i/2].X = n
-			} else {
-				s.P[i/2].Y = n
-			}
-		}
-		p = append(p, s)
-	}
-	return p
-}
 
 func at(x, y int) api.Point { return api.Point{X: x, Y: y} }
 
@@ -59,7 +39,7 @@ func TestCheck(t *testing.T) {
 		if e := Check(p); e != api.ErrPen {
 			t.Error(i, e)
 		}
-		if c, e := Covers(read("M 0 0"), p, at(99999, 0)); c || e != api.ErrPen {
+		if c, e := Covers(sketch.Path("M 0 0"), p, at(99999, 0)); c || e != api.ErrPen {
 			t.Error(i, e)
 		}
 	}
@@ -83,7 +63,7 @@ func TestCovers(t *testing.T) {
 		{"M 0 0, L 100 0, L 200 0", pen(20, butt, miter, 1), at(100, 10), true}, {"M 0 0, L 50 0, M 80 0, L 100 0", pen(20, butt, miter, 1), at(90, 1), true}, {"M 0 0, L 50 0, M 80 0, L 100 0", pen(20, butt, miter, 1), at(60, 1), false},
 		{"M -16384 -16384, L 16384 16384", pen(4096, butt, miter, 1), at(16384, -16384), false}, {"M -16384 -16384, L 16384 16384", pen(4096, butt, miter, 1), at(1448, -1448), true}, {"M -16384 -16384, L 16384 16384", pen(4096, butt, miter, 1), at(1449, -1448), false},
 	} {
-		if got, e := Covers(read(c.p), c.pen, c.q); got != c.want || e != api.OK {
+		if got, e := Covers(sketch.Path(c.p), c.pen, c.q); got != c.want || e != api.OK {
 			t.Errorf("%s %v at %v: %v %d", c.p, c.pen, c.q, got, e)
 		}
 	}
@@ -92,7 +72,7 @@ func TestCovers(t *testing.T) {
 		q api.Point
 		e api.Errno
 	}{{"M 0 0, C 1 1 2 2 3 3", at(99999, 0), api.ErrCurve}, {h, at(16385, 0), api.ErrArg}, {h, at(0, -16385), api.ErrArg}, {"L 0 0", at(99999, 0), api.ErrPath}} {
-		if got, e := Covers(read(c.p), pen(1, 0, 0, 1), c.q); got || e != c.e {
+		if got, e := Covers(sketch.Path(c.p), pen(1, 0, 0, 1), c.q); got || e != c.e {
 			t.Error(c, e)
 		}
 	}
@@ -197,7 +177,7 @@ func TestConsequences(t *testing.T) {
 		if covers(back, k, q) != got || covers(moved, k, at(q.X+70, q.Y-90)) != got {
 			t.Error("reversed or shifted", p, k, q)
 		}
-		frame := read("M 10 10, L 50 10, L 50 40, L 10 40, Z")
+		frame := sketch.Path("M 10 10, L 50 10, L 50 40, L 10 40, Z")
 		w := width/2 + 1
 		inside := func(d int) bool { return 10-d <= q.X && q.X <= 50+d && 10-d <= q.Y && q.Y <= 40+d }
 		inner := 10+w < q.X && q.X < 50-w && 10+w < q.Y && q.Y < 40-w

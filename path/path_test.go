@@ -3,38 +3,16 @@ package path
 import (
 	"math/rand"
 	"slices"
-	"strconv"
 	"strings"
 	"testing"
 
 	"chase/api"
+	"chase/sketch"
 )
-
-// read reads a path as in the chapter's examples: M 1 2, C 1 2 3 4 5 6, Z.
-func read(text string) api.Path {
-	var p api.Path
-	for _, f := range strings.Split(text, ",") {
-		w := strings.Fields(f)
-		if len(w) == 0 {
-			continue
-		}
-		s := api.Step{Kind: 1 + strings.Index("MLCZ", w[0])}
-		for i, x := range w[1:] {
-			n, _ := strconv.Atoi(x)
-			if i%2 == 0 {
-				s.P[i/2].X = n
-			} else {
-				s.P[i/2].Y = n
-			}
-		}
-		p = append(p, s)
-	}
-	return p
-}
 
 func is(t *testing.T, what string, p api.Path, e api.Errno, want string, code api.Errno) {
 	t.Helper()
-	if !slices.Equal(p, read(want)) || e != code {
+	if !slices.Equal(p, sketch.Path(want)) || e != code {
 		t.Errorf("%s: %v %d, want %s %d", what, p, e, want, code)
 	}
 }
@@ -42,15 +20,15 @@ func is(t *testing.T, what string, p api.Path, e api.Errno, want string, code ap
 func bad() []api.Path {
 	l := []api.Path{}
 	for _, text := range []string{"L 1 1", "M 1 1, M 2 2", "M 1 1, Z, Z", "M 1 1, Z, L 2 2", "M 1 1, Z, C 1 1 2 2 3 3", "Z", "M 16385 0", "M 0 -16385", "M 1 1, C 0 0 16385 0 0 0", "M 1 1, L 0 0 1 0", "M 1 1, M 0 0 0 0 0 1", "M 1 1, Z 1 1", "M 1 1, L 2 2, M 3 3, M 4 4"} {
-		l = append(l, read(text))
+		l = append(l, sketch.Path(text))
 	}
-	return append(l, api.Path{{}}, api.Path{{Kind: 5}}, api.Path{{Kind: -1}}, read("M 1 1, "+strings.Repeat("L 2 2, ", 300)))
+	return append(l, api.Path{{}}, api.Path{{Kind: 5}}, api.Path{{Kind: -1}}, sketch.Path("M 1 1, "+strings.Repeat("L 2 2, ", 300)))
 }
 
 // P21.1
 func TestCheck(t *testing.T) {
 	for _, text := range []string{"", "M 1 2", "M 1 2, Z", "M 1 2, Z, M 3 4, L 5 6, C 1 2 3 4 5 6, M 1 1", "M 16384 -16384", "M 1 1, " + strings.Repeat("L 2 2, ", 299)} {
-		p := read(text)
+		p := sketch.Path(text)
 		flat, e := Flat(p)
 		if Check(p) != api.OK || e != api.OK || flat == strings.Contains(text, "C") {
 			t.Error(text)
@@ -90,19 +68,19 @@ func TestAdd(t *testing.T) {
 		{"M 1 2, L 5 6, Z", "L 7 8", "M 1 2, L 5 6, Z, M 1 2, L 7 8", 0}, {"M 1 2, Z", "C 1 1 2 2 3 3", "M 1 2, Z, M 1 2, C 1 1 2 2 3 3", 0}, {"M 1 2, Z", "Z", "M 1 2, Z", 0}, {"M 1 2, Z", "M 1 2", "M 1 2, Z, M 1 2", 0}, {"M 1 2, L 3 4", "M 5 6", "M 1 2, L 3 4, M 5 6", 0},
 		{"", "L 16385 0", "", api.ErrArg}, {"M 1 2", "L 1 1 0 1", "", api.ErrArg}, {"M 1 2", "Z 1 0", "", api.ErrArg}, {"M 1 2", "Q 1 0", "", api.ErrArg},
 	} {
-		q, e := Add(read(c.p), read(c.s)[0])
+		q, e := Add(sketch.Path(c.p), sketch.Path(c.s)[0])
 		is(t, c.p+" + "+c.s, q, e, c.want, c.e)
 	}
-	full := read("M 1 1, " + strings.Repeat("L 2 2, ", 298) + "Z")
+	full := sketch.Path("M 1 1, " + strings.Repeat("L 2 2, ", 298) + "Z")
 	for s, want := range map[string]api.Errno{"L 1 1": api.LimitCheck, "M 1 1": api.LimitCheck, "Z": 0} {
-		if _, e := Add(full, read(s)[0]); e != want {
+		if _, e := Add(full, sketch.Path(s)[0]); e != want {
 			t.Error(s, e)
 		}
 	}
-	if q, e := Add(full[:298], read("Z")[0]); len(q) != 299 || e != 0 {
+	if q, e := Add(full[:298], sketch.Path("Z")[0]); len(q) != 299 || e != 0 {
 		t.Error(e)
 	}
-	if _, e := Add(append(full[:298:298], read("Z")...), read("L 1 1")[0]); e != api.LimitCheck {
+	if _, e := Add(append(full[:298:298], sketch.Path("Z")...), sketch.Path("L 1 1")[0]); e != api.LimitCheck {
 		t.Error("a Line behind a Close needs two steps", e)
 	}
 	if full[298].Kind != api.Line {
@@ -113,11 +91,11 @@ func TestAdd(t *testing.T) {
 // P21.3
 func TestCurrentAndBox(t *testing.T) {
 	for text, want := range map[string]api.Point{"M 1 2, L 5 6, Z": {X: 1, Y: 2}, "M 1 2, C 3 3 4 4 5 6": {X: 5, Y: 6}, "M 1 2": {X: 1, Y: 2}, "M 1 2, L 5 6": {X: 5, Y: 6}, "M 0 0, L 1 1, M 7 8, L 9 9, Z": {X: 7, Y: 8}} {
-		if q, e := Current(read(text)); q != want || e != api.OK {
+		if q, e := Current(sketch.Path(text)); q != want || e != api.OK {
 			t.Error(text, q, e)
 		}
 	}
-	low, high, e := Box(read("M 1 2, C -3 3 9 4 5 6, Z"))
+	low, high, e := Box(sketch.Path("M 1 2, C -3 3 9 4 5 6, Z"))
 	if low != (api.Point{X: -3, Y: 2}) || high != (api.Point{X: 9, Y: 6}) || e != 0 {
 		t.Error(low, high, e)
 	}
@@ -130,7 +108,7 @@ func TestCurrentAndBox(t *testing.T) {
 
 // P21.4
 func TestPartsAndJoin(t *testing.T) {
-	l, e := Parts(read("M 1 1, Z, M 2 2, L 3 3, M 4 4"))
+	l, e := Parts(sketch.Path("M 1 1, Z, M 2 2, L 3 3, M 4 4"))
 	if len(l) != 3 || e != 0 {
 		t.Fatal(l, e)
 	}
@@ -141,14 +119,14 @@ func TestPartsAndJoin(t *testing.T) {
 		t.Error(l, e)
 	}
 	for _, c := range [][3]string{{"M 1 1, L 2 2, M 3 3", "M 4 4", "M 1 1, L 2 2, M 4 4"}, {"M 1 1", "", "M 1 1"}, {"", "M 1 1", "M 1 1"}, {"M 1 1", "M 2 2, Z", "M 2 2, Z"}, {"M 1 1, Z", "M 2 2", "M 1 1, Z, M 2 2"}, {"", "", ""}} {
-		q, e := Join(read(c[0]), read(c[1]))
+		q, e := Join(sketch.Path(c[0]), sketch.Path(c[1]))
 		is(t, c[0]+" + "+c[1], q, e, c[2], 0)
 	}
-	half := read("M 1 1, " + strings.Repeat("L 2 2, ", 149))
+	half := sketch.Path("M 1 1, " + strings.Repeat("L 2 2, ", 149))
 	if q, e := Join(half, half); len(q) != 300 || e != 0 {
 		t.Error(e)
 	}
-	if q, e := Join(half, append(half, read("Z")...)); q != nil || e != api.LimitCheck {
+	if q, e := Join(half, append(half, sketch.Path("Z")...)); q != nil || e != api.LimitCheck {
 		t.Error(e)
 	}
 }
@@ -156,7 +134,7 @@ func TestPartsAndJoin(t *testing.T) {
 // P21.5
 func TestReverseAndShift(t *testing.T) {
 	for text, want := range map[string]string{"M 1 2, L 3 4, C 5 5 6 6 7 8, Z": "M 7 8, C 6 6 5 5 3 4, L 1 2, Z", "": "", "M 1 2": "M 1 2", "M 1 2, Z": "M 1 2, Z", "M 1 2, L 3 4, M 5 6, L 7 8, Z": "M 3 4, L 1 2, M 7 8, L 5 6, Z"} {
-		q, e := Reverse(read(text))
+		q, e := Reverse(sketch.Path(text))
 		is(t, text, q, e, want, 0)
 	}
 	for _, c := range []struct {
@@ -167,7 +145,7 @@ func TestReverseAndShift(t *testing.T) {
 	}{
 		{"M 16384 0", 1, 0, "", api.LimitCheck}, {"M 16384 0", -1, 0, "M 16383 0", 0}, {"M 1 2, C 1 2 3 4 5 6, Z", 10, 20, "M 11 22, C 11 22 13 24 15 26, Z", 0}, {"M -16384 0", 32768, 0, "M 16384 0", 0}, {"M 0 0", 32769, 0, "", api.ErrArg}, {"M 0 0", 0, -32769, "", api.ErrArg}, {"", 32768, -32768, "", 0}, {"M 0 0", 0, -16385, "", api.LimitCheck},
 	} {
-		q, e := Shift(read(c.p), c.x, c.y)
+		q, e := Shift(sketch.Path(c.p), c.x, c.y)
 		is(t, c.p, q, e, c.want, c.e)
 	}
 }

@@ -1,6 +1,7 @@
 package sketch
 
 import (
+	"slices"
 	"testing"
 
 	"chase/api"
@@ -23,6 +24,16 @@ func TestInverse(t *testing.T) {
 	}
 	s.Heap[0].Items[0] = s.Ops[0]
 	if got := Show(s); len(got) > 100 {
+		t.Error(got)
+	}
+}
+
+func TestPath(t *testing.T) {
+	want := api.Path{
+		{Kind: api.Move, P: [3]api.Point{{X: 1, Y: -2}}}, {Kind: api.Line, P: [3]api.Point{{X: 3, Y: 4}}},
+		{Kind: api.Curve, P: [3]api.Point{{X: 1, Y: 2}, {X: 3, Y: 4}, {X: 5, Y: 6}}}, {Kind: api.Close}, {Kind: 0},
+	}
+	if got := Path("M 1 -2, L 3 4, C 1 2 3 4 5 6, Z, Q"); !slices.Equal(got, want) || Path("") != nil {
 		t.Error(got)
 	}
 }

@@ -2,32 +2,12 @@ package wind
 
 import (
 	"math/rand"
-	"strconv"
-	"strings"
 	"testing"
 
 	"chase/api"
 	"chase/path"
+	"chase/sketch"
 )
-
-// read reads a path as in the chapter's examples.
-func read(text string) api.Path {
-	var p api.Path
-	for _, f := range strings.Split(text, ",") {
-		w := strings.Fields(f)
-		s := api.Step{Kind: 1 + strings.Index("MLCZ", w[0])}
-		for i, x := range w[1:] {
-			n, _ := strconv.Atoi(x)
-			if i%2 == 0 {
-				s.P[i/2].X = n
-			} else {
-				s.P[i/2].Y = n
-			}
-		}
-		p = append(p, s)
-	}
-	return p
-}
 
 const (
 	square   = "M 0 0, L 32 0, L 32 32, L 0 32, Z"
@@ -46,7 +26,7 @@ func TestWinding(t *testing.T) {
 		{square, at(0, 0), 1}, {square, at(31, 31), 1}, {square, at(32, 0), 0}, {square, at(0, 32), 0}, {square, at(-1, 5), 0}, {triangle, at(4, 5), 1}, {triangle, at(5, 5), 0}, {square + "," + square, at(1, 1), 2},
 		{"M 5 5, Z", at(5, 5), 0}, {"M 5 5", at(5, 5), 0}, {"M 0 0, L 0 32, L 32 32, L 32 0", at(5, 5), -1}, {square + ", M 8 8, L 8 16, L 16 16, L 16 8", at(9, 9), 0}, {"M -16384 -16384, L 16384 -16384, L 16384 16384, L -16384 16384", at(16383, 16383), 1}, {"M 0 0, L 8 8", at(4, 4), 0},
 	} {
-		if n, e := Winding(read(c.p), c.q); n != c.want || e != api.OK {
+		if n, e := Winding(sketch.Path(c.p), c.q); n != c.want || e != api.OK {
 			t.Errorf("%s at %v: %d %d", c.p, c.q, n, e)
 		}
 	}
@@ -57,11 +37,11 @@ func TestWinding(t *testing.T) {
 
 // P23.2
 func TestInside(t *testing.T) {
-	twice := read(square + "," + square)
+	twice := sketch.Path(square + "," + square)
 	for _, c := range []struct {
 		p          api.Path
 		even, want bool
-	}{{twice, false, true}, {twice, true, false}, {read(square), true, true}, {read("M 0 0, L 0 32, L 32 32, L 32 0"), true, true}, {read("M 0 0, L 0 32, L 32 32, L 32 0"), false, true}, {nil, false, false}} {
+	}{{twice, false, true}, {twice, true, false}, {sketch.Path(square), true, true}, {sketch.Path("M 0 0, L 0 32, L 32 32, L 32 0"), true, true}, {sketch.Path("M 0 0, L 0 32, L 32 32, L 32 0"), false, true}, {nil, false, false}} {
 		if in, e := Inside(c.p, c.even, at(1, 1)); in != c.want || e != api.OK {
 			t.Error(c.p, c.even, in, e)
 		}
@@ -71,8 +51,8 @@ func TestInside(t *testing.T) {
 		q api.Point
 		e api.Errno
 	}{{"M 0 0, C 1 1 2 2 3 3", at(99999, 0), api.ErrCurve}, {square, at(16385, 0), api.ErrArg}, {square, at(0, -16385), api.ErrArg}, {"L 0 0", at(99999, 0), api.ErrPath}, {"M 0 0, M 1 1, C 1 1 2 2 3 3", at(0, 0), api.ErrPath}} {
-		n, e := Winding(read(c.p), c.q)
-		in, e2 := Inside(read(c.p), false, c.q)
+		n, e := Winding(sketch.Path(c.p), c.q)
+		in, e2 := Inside(sketch.Path(c.p), false, c.q)
 		if n != 0 || in || e != c.e || e2 != c.e {
 			t.Error(c, e, e2)
 		}
@@ -130,7 +110,7 @@ func TestConsequences(t *testing.T) {
 			t.Error(p, q, n, sum, m, l)
 		}
 		// A polygon that is cut in two
-		poly := read("M 0 0, L 1 1, L 2 2, L 3 3, L 4 4, L 5 5")
+		poly := sketch.Path("M 0 0, L 1 1, L 2 2, L 3 3, L 4 4, L 5 5")
 		for i := range poly {
 			poly[i].P[0] = at(r.Intn(12), r.Intn(12))
 		}
@@ -144,7 +124,7 @@ func TestConsequences(t *testing.T) {
 			t.Error(poly, q)
 		}
 		x0, y0, x1, y1 := r.Intn(8), r.Intn(8), 8+r.Intn(4), 8+r.Intn(4)
-		box := read("M 0 0, L 0 0, L 0 0, L 0 0")
+		box := sketch.Path("M 0 0, L 0 0, L 0 0, L 0 0")
 		for i, c := range []api.Point{at(x0, y0), at(x1, y0), at(x1, y1), at(x0, y1)} {
 			box[i].P[0] = c
 		}
